@@ -11,6 +11,27 @@ FUNCTIONS = {
         "contains": ["low", "high", "bound"],
         "overlap": ["low", "high", "other_low", "other_high"],
     },
+    "texts": {
+        "is_printable": ["value"],
+        "is_integer": ["value", "least", "greatest"],
+        "encode": ["value"],
+        "decode": ["text"],
+    },
+    "operations": {
+        "is_value": ["value"],
+        "is_operation": ["value"],
+        "is_answer": ["value"],
+        "place": ["op"],
+        "apply": ["items", "op", "high"],
+    },
+    "letters": {
+        "is_server": ["count", "value"],
+        "is_client": ["value"],
+        "is_pairs": ["low", "high", "value"],
+        "is_rows": ["value"],
+        "is_letter": ["count", "value"],
+        "check_letter": ["count", "sender", "receiver", "letter"],
+    },
 }
 
 CLASSES = {
@@ -18,6 +39,20 @@ CLASSES = {
         "TableError": {}, "BadText": {}, "BadOperation": {}, "BadLetter": {}, "BadShard": {},
         "BadRecord": {}, "BadServer": {}, "DiskError": {}, "DiskCrashed": {},
         "BadSchedule": {"__init__": ["self", "line", "reason"]},
+    },
+    "files": {
+        "Disk": {
+            "__init__": ["self"],
+            "names": ["self"],
+            "read": ["self", "name"],
+            "append": ["self", "name", "text"],
+            "sync": ["self", "name"],
+            "remove": ["self", "name"],
+            "rename": ["self", "old", "new"],
+            "pending": ["self", "name"],
+            "arm": ["self", "count"],
+            "crash": ["self", "keeps"],
+        },
     },
 }
 
