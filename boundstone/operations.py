@@ -1,7 +1,7 @@
 """Values of the table, operations and their answers."""
 
 from boundstone.errors import BadOperation
-from boundstone.keys import below, is_bound, is_key
+from boundstone.keys import below, contains, is_bound, is_key
 from boundstone.limits import MOST_PAGE, MOST_VALUE
 from boundstone.texts import is_integer, is_printable
 
@@ -76,6 +76,11 @@ def place(op):
     if not is_operation(op):
         raise BadOperation("not an operation")
     return op[1]
+
+
+def is_within(op, low, high):
+    """Tell whether a range contains the place of an operation."""
+    return contains(low, high, place(op))
 
 
 def _get(items, op, high):

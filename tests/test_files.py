@@ -3,6 +3,7 @@ import unittest
 from boundstone import files
 from boundstone.errors import DiskCrashed, DiskError
 from boundstone.files import MOST_NAME, Disk
+from disks import disk_with, state
 from values import NO_STRINGS
 
 NAMES = ("a", "z", ".", "..", "log", "log.new", "a.b.c", "n" * MOST_NAME, "." * MOST_NAME)
@@ -41,21 +42,6 @@ WRONG_CALLS = (
 def call(disk, step):
     name, arguments = step
     return getattr(disk, name)(*arguments)
-
-
-def state(disk):
-    """The names, texts and numbers of pending characters of all files."""
-    return [(name, disk.read(name), disk.pending(name)) for name in disk.names()]
-
-
-def disk_with(*rows):
-    """A disk with files of these names, durable beginnings and pending characters."""
-    disk = Disk()
-    for name, durable, waiting in rows:
-        disk.append(name, durable)
-        disk.sync(name)
-        disk.append(name, waiting)
-    return disk
 
 
 class DiskTest(unittest.TestCase):

@@ -18,8 +18,17 @@ isdigit islower isspace isupper items join keys ljust lower lstrip partition pop
 reverse rfind rjust rpartition rsplit rstrip setdefault split splitlines startswith strip update
 upper values zfill bit_length isascii""".split())
 
-BARRED = re.compile(r"\b(type|typing|enum|Enum|Flag|Generic|Protocol|ABC|namedtuple|register|mro|"
-                    r"elements|open|input|law)\b|dataclass|overload|contextmanager|_wall")
+BARRED = re.compile(r"\b(type|typing|enum|Enum|Flag|Generic|Protocol|ABC|namedtuple)\b|dataclass|"
+                    r"overload|contextmanager|_wall")
+
+# Names that nothing has, neither a variable nor an attribute.
+BARRED_NAMES = re.compile(r"^(register|mro|elements|open|input|law|version_info|with_traceback|add_note|"
+                          r"_(cold|tuplegetter|outside|record|written_out)[0-9_]*|"
+                          r"_(pe|dcw|enum|cm|twin_re|lay|law|stub)_.*|_sre.*)$")
+
+# Names that no attribute has, and names of methods that count as changes.
+BARRED_ATTRIBUTES = set("""items keys values pop update append clear extend insert remove reverse
+setdefault sort args encode decode hex fromhex format""".split())
 
 NODES = set("""Module FunctionDef arguments arg ClassDef ImportFrom alias Return Assign AugAssign
 For While If Raise Assert Delete Try ExceptHandler Expr Pass Break Continue BoolOp BinOp UnaryOp
@@ -115,6 +124,42 @@ class FormTest(unittest.TestCase):
         for path, name in bound():
             self.assertNotIn(name, dir(builtins), path)
             self.assertRegex(name, r"^(_?[A-Za-z][A-Za-z0-9_]*|_|__init__)$", path)
+
+    def test_names_that_are_barred(self):
+        for path, node in nodes((ast.Name, ast.Attribute, ast.arg, ast.keyword, ast.FunctionDef, ast.ClassDef)):
+            name = next(getattr(node, part) for part in ("id", "attr", "arg", "name") if hasattr(node, part))
+            self.assertIsNone(BARRED_NAMES.match(name), (path, name))
+
+    def test_attributes(self):
+        for path, node in nodes(ast.Attribute):
+            if isinstance(node.ctx, ast.Store):
+                self.assertNotIn(node.attr, BARRED_ATTRIBUTES, (path, node.lineno))
+        for path, cls in nodes(ast.ClassDef):
+            methods = {node.name for node in cls.body if isinstance(node, ast.FunctionDef)}
+            stored = {node.attr for node in ast.walk(cls)
+                      if isinstance(node, ast.Attribute) and isinstance(node.ctx, ast.Store)}
+            self.assertEqual(methods & stored, set(), path)
+
+    def test_no_local_name_is_the_name_of_an_import_or_a_class(self):
+        for path, tree in trees():
+            taken = {alias.name for node in tree.body if isinstance(node, ast.ImportFrom) for alias in node.names}
+            taken |= {node.name for node in tree.body if isinstance(node, ast.ClassDef)}
+            for node in ast.walk(tree):
+                if isinstance(node, ast.arg):
+                    self.assertNotIn(node.arg, taken, (path, node.lineno))
+                elif isinstance(node, ast.Name) and isinstance(node.ctx, ast.Store):
+                    self.assertNotIn(node.id, taken, (path, node.lineno))
+
+    def test_loops_do_not_change_what_they_go_over(self):
+        for path, loop in nodes(ast.For):
+            gone_over = {ast.unparse(node) for node in ast.walk(loop.iter)
+                         if isinstance(node, (ast.Name, ast.Attribute))}
+            for node in ast.walk(loop):
+                if isinstance(node, ast.Call) and isinstance(node.func, ast.Attribute):
+                    if node.func.attr in BARRED_ATTRIBUTES:
+                        self.assertNotIn(ast.unparse(node.func.value), gone_over, (path, node.lineno))
+                if isinstance(node, ast.Subscript) and not isinstance(node.ctx, ast.Load):
+                    self.assertNotIn(ast.unparse(node.value), gone_over, (path, node.lineno))
 
     def test_builtins(self):
         for path, node in nodes(ast.Name):

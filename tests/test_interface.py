@@ -32,6 +32,13 @@ FUNCTIONS = {
         "is_letter": ["count", "value"],
         "check_letter": ["count", "sender", "receiver", "letter"],
     },
+    "log": {
+        "line_of": ["record"],
+        "read_lines": ["text"],
+    },
+    "shard": {
+        "made": ["low", "high", "epoch", "pairs", "rows"],
+    },
 }
 
 CLASSES = {
@@ -52,6 +59,47 @@ CLASSES = {
             "pending": ["self", "name"],
             "arm": ["self", "count"],
             "crash": ["self", "keeps"],
+        },
+    },
+    "log": {
+        "Log": {
+            "__init__": ["self", "disk", "name"],
+            "records": ["self"],
+            "append": ["self", "record"],
+            "sync": ["self"],
+            "rewrite": ["self", "records"],
+        },
+    },
+    "sessions": {
+        "Sessions": {
+            "__init__": ["self"],
+            "status": ["self", "client", "number"],
+            "answer": ["self", "client"],
+            "remember": ["self", "client", "number", "answer"],
+            "rows": ["self"],
+            "merged": ["self", "other"],
+            "clone": ["self"],
+        },
+    },
+    "shard": {
+        "Shard": {
+            "__init__": ["self", "low", "high", "epoch"],
+            "has": ["self", "place"],
+            "size": ["self"],
+            "status": ["self", "client", "number"],
+            "serve": ["self", "client", "number", "op"],
+            "split": ["self", "at"],
+            "join": ["self", "other"],
+            "content": ["self"],
+            "clone": ["self"],
+        },
+    },
+    "epochs": {
+        "Epochs": {
+            "__init__": ["self"],
+            "raise_to": ["self", "low", "high", "epoch"],
+            "greatest": ["self", "low", "high"],
+            "rows": ["self"],
         },
     },
 }

@@ -2,7 +2,7 @@ import unittest
 
 from boundstone.errors import BadOperation
 from boundstone.limits import MOST_KEY, MOST_PAGE, MOST_VALUE
-from boundstone.operations import apply, is_answer, is_operation, is_value, place
+from boundstone.operations import apply, is_answer, is_operation, is_value, is_within, place
 from values import NO_INTEGERS, NO_STRINGS, NO_TUPLES, Odd
 
 OPERATIONS = (
@@ -97,6 +97,16 @@ class OperationTest(unittest.TestCase):
         self.assertEqual(place(("page", "", 3)), "")
         for op in (("get", ""), ("put", "", "x"), ("drop", ""), ("swap", "", "x", "y")):
             self.check_wrong(op)
+
+    def test_the_range_of_the_place(self):
+        for op, low, high, expected in (
+            (("get", "b"), "b", "c", True), (("put", "bz", "x"), "b", "c", True), (("drop", "c"), "b", "c", False),
+            (("swap", "azzzzzzz", "x", "y"), "b", "c", False), (("page", "", 1), "", "a", True),
+            (("page", "", 1), "a", None, False), (("page", "zzzzzzzz", 1), "a", None, True),
+        ):
+            self.assertIs(is_within(op, low, high), expected)
+        with self.assertRaises(BadOperation):
+            is_within(("get",), "", None)
 
     def test_the_limit_of_a_page(self):
         for limit in range(1, MOST_PAGE + 1):

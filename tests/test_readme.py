@@ -1,0 +1,20 @@
+import doctest
+import pathlib
+import unittest
+
+README = pathlib.Path(__file__).parent.parent / "README.md"
+
+
+class ReadmeTest(unittest.TestCase):
+    def test_the_examples(self):
+        # The mark at the end of the examples would be taken for the end of what the last one prints.
+        text = README.read_text("utf-8").replace("```", "")
+        examples = doctest.DocTestParser().get_doctest(text, {}, "README", str(README), 0)
+        self.assertGreater(len(examples.examples), 20)
+        told = []
+        result = doctest.DocTestRunner(verbose=False).run(examples, out=told.append)
+        self.assertEqual(result.failed, 0, "".join(told))
+
+
+if __name__ == "__main__":
+    unittest.main()
