@@ -43,15 +43,16 @@ def _is_row(value):
     if not isinstance(value, tuple) or len(value) != 3:
         return False
     client, number, answer = value
-    return is_client(client) and _is_number(number) and is_answer(answer)
+    return is_client(client) and is_number(number) and is_answer(answer)
 
 
-def _is_number(value):
+def is_number(value):
+    """Tell whether any value is a number of a request, or an epoch."""
     return is_integer(value, 1, MOST_NUMBER)
 
 
 def _is_ask(count, letter):
-    return len(letter) == 3 and _is_number(letter[1]) and is_operation(letter[2])
+    return len(letter) == 3 and is_number(letter[1]) and is_operation(letter[2])
 
 
 def _is_where(count, letter):
@@ -59,24 +60,24 @@ def _is_where(count, letter):
 
 
 def _is_told(count, letter):
-    return len(letter) == 3 and _is_number(letter[1]) and is_answer(letter[2])
+    return len(letter) == 3 and is_number(letter[1]) and is_answer(letter[2])
 
 
 def _is_elsewhere(count, letter):
-    return len(letter) == 2 and _is_number(letter[1])
+    return len(letter) == 2 and is_number(letter[1])
 
 
-def _names_shard(letter, length):
+def names_shard(letter, length):
     """Tell whether a letter of this length has a range and an epoch behind its kind."""
-    return len(letter) == length and is_range(letter[1], letter[2]) and _is_number(letter[3])
+    return len(letter) == length and is_range(letter[1], letter[2]) and is_number(letter[3])
 
 
 def _names_server(count, letter):
-    return _names_shard(letter, 5) and is_server(count, letter[4])
+    return names_shard(letter, 5) and is_server(count, letter[4])
 
 
 def _is_split(count, letter):
-    if not _names_shard(letter, 5):
+    if not names_shard(letter, 5):
         return False
     low, high, at = letter[1], letter[2], letter[4]
     return is_key(at) and low < at and below(at, high)
@@ -88,21 +89,21 @@ def _is_join(count, letter):
     _, low, middle, epoch, high, other = letter
     if not is_range(low, middle) or not is_range(middle, high):
         return False
-    return _is_number(epoch) and _is_number(other)
+    return is_number(epoch) and is_number(other)
 
 
 def _is_have(count, letter):
-    return _names_shard(letter, 6) and is_integer(letter[4], 0, MOST_NUMBER) and is_bound(letter[5])
+    return names_shard(letter, 6) and is_integer(letter[4], 0, MOST_NUMBER) and is_bound(letter[5])
 
 
 def _is_content(count, letter):
-    if not _names_shard(letter, 6):
+    if not names_shard(letter, 6):
         return False
     return is_pairs(letter[1], letter[2], letter[4]) and is_rows(letter[5])
 
 
 def _is_receipt(count, letter):
-    return _names_shard(letter, 4)
+    return names_shard(letter, 4)
 
 
 FORMS = {

@@ -26,9 +26,11 @@ BARRED_NAMES = re.compile(r"^(register|mro|elements|open|input|law|version_info|
                           r"_(cold|tuplegetter|outside|record|written_out)[0-9_]*|"
                           r"_(pe|dcw|enum|cm|twin_re|lay|law|stub)_.*|_sre.*)$")
 
-# Names that no attribute has, and names of methods that count as changes.
-BARRED_ATTRIBUTES = set("""items keys values pop update append clear extend insert remove reverse
-setdefault sort args encode decode hex fromhex format""".split())
+# Methods that count as changes.
+CHANGES = set("append clear extend insert pop remove reverse setdefault sort update".split())
+
+# Names that no attribute has.
+BARRED_ATTRIBUTES = CHANGES | set("items keys values args encode decode hex fromhex format".split())
 
 NODES = set("""Module FunctionDef arguments arg ClassDef ImportFrom alias Return Assign AugAssign
 For While If Raise Assert Delete Try ExceptHandler Expr Pass Break Continue BoolOp BinOp UnaryOp
@@ -156,7 +158,7 @@ class FormTest(unittest.TestCase):
                          if isinstance(node, (ast.Name, ast.Attribute))}
             for node in ast.walk(loop):
                 if isinstance(node, ast.Call) and isinstance(node.func, ast.Attribute):
-                    if node.func.attr in BARRED_ATTRIBUTES:
+                    if node.func.attr in CHANGES:
                         self.assertNotIn(ast.unparse(node.func.value), gone_over, (path, node.lineno))
                 if isinstance(node, ast.Subscript) and not isinstance(node.ctx, ast.Load):
                     self.assertNotIn(ast.unparse(node.value), gone_over, (path, node.lineno))

@@ -39,6 +39,12 @@ FUNCTIONS = {
     "shard": {
         "made": ["low", "high", "epoch", "pairs", "rows"],
     },
+    "routes": {
+        "is_whole": ["piece"],
+    },
+    "planner": {
+        "plan": ["pieces", "count"],
+    },
 }
 
 CLASSES = {
@@ -100,6 +106,41 @@ CLASSES = {
             "raise_to": ["self", "low", "high", "epoch"],
             "greatest": ["self", "low", "high"],
             "rows": ["self"],
+        },
+    },
+    "holdings": {
+        "Holdings": {
+            "__init__": ["self", "records"],
+            "fits": ["self", "record"],
+            "add": ["self", "record"],
+            "shards": ["self"],
+            "find": ["self", "spot"],
+            "status": ["self", "low", "client", "number"],
+            "answer": ["self", "low", "client"],
+            "measure": ["self", "low"],
+            "content": ["self", "low", "high", "epoch"],
+            "greatest": ["self", "low", "high"],
+            "epochs": ["self"],
+            "summary": ["self"],
+        },
+    },
+    "server": {
+        "Server": {
+            "__init__": ["self", "me", "count", "disk"],
+            "tick": ["self"],
+            "receive": ["self", "sender", "letter"],
+            "shards": ["self"],
+            "content": ["self", "low", "high", "epoch"],
+            "records": ["self"],
+        },
+    },
+    "routes": {
+        "Routes": {
+            "__init__": ["self"],
+            "add": ["self", "report"],
+            "pieces": ["self"],
+            "find": ["self", "place"],
+            "drop": ["self", "place"],
         },
     },
 }

@@ -5,16 +5,10 @@ from boundstone.errors import BadLetter
 from boundstone.keys import contains
 from boundstone.letters import check_letter, is_client, is_letter, is_pairs, is_rows, is_server
 from boundstone.limits import DIRECTORY, MOST_CLIENTS, MOST_NUMBER, MOST_SERVERS, MOST_VALUE
+from parts import COUNT, NO_KEYS, PAIRS, ROWS, WRONG, changed
 from values import NO_INTEGERS, NO_STRINGS, NO_TUPLES, Odd
 
-COUNT = 4
-
-PAIRS = (("b", "x"), ("ba", ""), ("c", "it's"))
-ROWS = ((-9, 1, ("done",)), (-2, MOST_NUMBER, ("page", (("a", "x"),), None)), (-1, 7, ("value", "v")))
-
-# Each kind of letter with the form of each of its parts: n for a number, z for a size, o for an
-# operation, r for an answer, l and h for the bounds of a range, b for a bound, s for a server, k for
-# the key of a split, m for the middle of a join, p for pairs, w for rows.
+# Each kind of letter with the form of each of its parts, as in WRONG.
 FORMS = (
     (("ask", 3, ("get", "a")), "-no"),
     (("where", "a"), "-b"),
@@ -28,25 +22,6 @@ FORMS = (
     (("content", "b", "d", 3, PAIRS, ROWS), "-lhnpw"),
     (("receipt", "b", "d", 3), "-lhn"),
 )
-
-NO_KEYS = ("A", "a1", "a b", " ", "aaaaaaaaa", "\u00e9", "a\n")
-NOT_NONE = tuple(value for value in NO_STRINGS if value is not None)
-
-WRONG = {
-    "-": NO_STRINGS + ("", "Ask", "ask ", "asks", "get", "done", "tick", "opened"),
-    "n": NO_INTEGERS + (0, -1, MOST_NUMBER + 1, 10 ** 40),
-    "z": NO_INTEGERS + (-1, MOST_NUMBER + 1, 10 ** 40),
-    "o": NO_TUPLES + ((), ("get",), ("get", ""), ("done",), ("page", "a", 51), ("put", "a", 1)),
-    "r": NO_TUPLES + ((), ("get", "a"), ("done", "a"), ("value",), ("page", (), "")),
-    "l": NO_STRINGS + NO_KEYS + ("d", "da", "z"),
-    "h": NOT_NONE + NO_KEYS + ("", "a", "azzzzzzz", "b"),
-    "b": NO_STRINGS + NO_KEYS,
-    "s": NO_INTEGERS + (-1, COUNT, COUNT + 1, DIRECTORY),
-    "k": NO_STRINGS + NO_KEYS + ("", "a", "azzzzzzz", "b", "d", "da", "z"),
-    "m": NO_STRINGS + NO_KEYS + ("", "a", "b", "d", "e"),
-    "p": NO_TUPLES + ((("a", "x"),), (("d", "x"),), (("c", "x"), ("b", "x")), ("b", "x")),
-    "w": NO_TUPLES + (((-1, 1),), ((-1, 1, ("done",)), (-2, 1, ("done",))), (-1, 1, ("done",))),
-}
 
 SENDERS = {
     "ask": ("client", "server"),
@@ -70,10 +45,6 @@ PARTIES = {
                True, False, 0.0, 1.0, -1.0, 1000.0, "0", "-1", "client", "server", b"0", (), (0,),
                [0], {}, object(), Odd()),
 }
-
-
-def changed(value, at, part):
-    return value[:at] + (part,) + value[at + 1:]
 
 
 class PartyTest(unittest.TestCase):
