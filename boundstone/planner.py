@@ -51,9 +51,13 @@ def _join(one, other):
     return (server, ("join", low, middle, epoch, other[1], other[2]))
 
 
+def _load(reports, server):
+    return len([report for report in reports if report[3] == server])
+
+
 def _even_out(reports, rest, count):
     """Return a move from the server with the most shards to the one with the least, or none."""
-    loads = [len([report for report in reports if report[3] == server]) for server in range(count)]
+    loads = [_load(reports, server) for server in range(count)]
     busiest = loads.index(max(loads))
     target = loads.index(min(loads))
     if loads[busiest] - loads[target] < 2:
