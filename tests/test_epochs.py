@@ -105,6 +105,14 @@ class GreatestTest(unittest.TestCase):
         ):
             self.assertEqual(epochs.greatest(low, high), expected, (low, high))
 
+    def test_the_example(self):
+        epochs = Epochs()
+        epochs.raise_to("b", "m", 2)
+        epochs.raise_to("f", None, 1)
+        self.assertEqual(epochs.rows(), [("b", "m", 2), ("m", None, 1)])
+        self.assertEqual(epochs.greatest("", "b"), 0)
+        self.assertEqual(epochs.greatest("a", "c"), 2)
+
     def test_the_empty_string_counts_like_a_key(self):
         epochs = raised(("", "a", 4))
         self.assertEqual(epochs.greatest("", "a"), 4)
