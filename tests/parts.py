@@ -33,6 +33,35 @@ WRONG = {
     "w": NO_TUPLES + (((-1, 1),), ((-1, 1, ("done",)), (-2, 1, ("done",))), (-1, 1, ("done",))),
 }
 
+# Each kind of letter with the form of each of its parts, as in WRONG.
+FORMS = (
+    (("ask", 3, ("get", "a")), "-no"),
+    (("where", "a"), "-b"),
+    (("answer", 3, ("done",)), "-nr"),
+    (("elsewhere", 3), "-n"),
+    (("there", "b", "d", 3, 2), "-lhns"),
+    (("move", "b", "d", 3, 2), "-lhns"),
+    (("split", "b", "d", 3, "c"), "-lhnk"),
+    (("join", "b", "c", 3, "d", 4), "-lmnhn"),
+    (("have", "b", "d", 3, 5, "c"), "-lhnzb"),
+    (("content", "b", "d", 3, PAIRS, ROWS), "-lhnpw"),
+    (("receipt", "b", "d", 3), "-lhn"),
+)
+
+SENDERS = {
+    "ask": ("client", "server"),
+    "where": ("client", "directory"),
+    "answer": ("server", "client"),
+    "elsewhere": ("server", "client"),
+    "there": ("directory", "client"),
+    "move": ("directory", "server"),
+    "split": ("directory", "server"),
+    "join": ("directory", "server"),
+    "have": ("server", "directory"),
+    "content": ("server", "server"),
+    "receipt": ("server", "server"),
+}
+
 
 def changed(value, at, part):
     return value[:at] + (part,) + value[at + 1:]

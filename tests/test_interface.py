@@ -45,6 +45,9 @@ FUNCTIONS = {
     "planner": {
         "plan": ["pieces", "count"],
     },
+    "acts": {
+        "check_act": ["act"],
+    },
 }
 
 CLASSES = {
@@ -141,6 +144,36 @@ CLASSES = {
             "pieces": ["self"],
             "find": ["self", "place"],
             "drop": ["self", "place"],
+        },
+    },
+    "directory": {
+        "Directory": {
+            "__init__": ["self", "count"],
+            "tick": ["self"],
+            "receive": ["self", "sender", "letter"],
+            "pieces": ["self"],
+        },
+    },
+    "client": {
+        "Client": {
+            "__init__": ["self", "name", "count"],
+            "submit": ["self", "op"],
+            "tick": ["self"],
+            "receive": ["self", "sender", "letter"],
+            "pending": ["self"],
+            "accepted": ["self"],
+            "pieces": ["self"],
+        },
+    },
+    "net": {
+        "Net": {
+            "__init__": ["self"],
+            "send": ["self", "sender", "receiver", "letter"],
+            "take": ["self", "position"],
+            "double": ["self", "position"],
+            "move": ["self", "position"],
+            "packets": ["self"],
+            "count": ["self"],
         },
     },
 }

@@ -5,37 +5,8 @@ from boundstone.errors import BadLetter
 from boundstone.keys import contains
 from boundstone.letters import check_letter, is_client, is_letter, is_pairs, is_rows, is_server
 from boundstone.limits import DIRECTORY, MOST_CLIENTS, MOST_NUMBER, MOST_SERVERS, MOST_VALUE
-from parts import COUNT, NO_KEYS, PAIRS, ROWS, WRONG, changed
+from parts import COUNT, FORMS, NO_KEYS, PAIRS, ROWS, SENDERS, WRONG, changed
 from values import NO_INTEGERS, NO_STRINGS, NO_TUPLES, Odd
-
-# Each kind of letter with the form of each of its parts, as in WRONG.
-FORMS = (
-    (("ask", 3, ("get", "a")), "-no"),
-    (("where", "a"), "-b"),
-    (("answer", 3, ("done",)), "-nr"),
-    (("elsewhere", 3), "-n"),
-    (("there", "b", "d", 3, 2), "-lhns"),
-    (("move", "b", "d", 3, 2), "-lhns"),
-    (("split", "b", "d", 3, "c"), "-lhnk"),
-    (("join", "b", "c", 3, "d", 4), "-lmnhn"),
-    (("have", "b", "d", 3, 5, "c"), "-lhnzb"),
-    (("content", "b", "d", 3, PAIRS, ROWS), "-lhnpw"),
-    (("receipt", "b", "d", 3), "-lhn"),
-)
-
-SENDERS = {
-    "ask": ("client", "server"),
-    "where": ("client", "directory"),
-    "answer": ("server", "client"),
-    "elsewhere": ("server", "client"),
-    "there": ("directory", "client"),
-    "move": ("directory", "server"),
-    "split": ("directory", "server"),
-    "join": ("directory", "server"),
-    "have": ("server", "directory"),
-    "content": ("server", "server"),
-    "receipt": ("server", "server"),
-}
 
 PARTIES = {
     "client": (-1, -2, -MOST_CLIENTS),
