@@ -48,6 +48,19 @@ FUNCTIONS = {
     "acts": {
         "check_act": ["act"],
     },
+    "schedule": {
+        "parse_schedule": ["text"],
+        "act_line": ["act"],
+        "run_schedule": ["text"],
+    },
+    "judge": {
+        "request_fault": ["events"],
+        "answer_fault": ["events"],
+        "home_fault": ["holdings"],
+        "cover_fault": ["holdings"],
+        "lost_fault": ["holdings", "events"],
+        "judge": ["events", "holdings"],
+    },
 }
 
 CLASSES = {
@@ -174,6 +187,28 @@ CLASSES = {
             "move": ["self", "position"],
             "packets": ["self"],
             "count": ["self"],
+        },
+    },
+    "history": {
+        "History": {
+            "__init__": ["self"],
+            "add": ["self", "event"],
+            "events": ["self"],
+        },
+    },
+    "world": {
+        "World": {
+            "__init__": ["self", "servers", "clients"],
+            "act": ["self", "step"],
+            "time": ["self"],
+            "packets": ["self"],
+            "is_up": ["self", "server"],
+            "shards": ["self", "server"],
+            "content": ["self", "server", "low", "high", "epoch"],
+            "holdings": ["self"],
+            "client": ["self", "name"],
+            "pieces": ["self"],
+            "history": ["self"],
         },
     },
 }

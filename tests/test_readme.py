@@ -1,6 +1,9 @@
 import doctest
 import pathlib
+import re
 import unittest
+
+from boundstone.schedule import run_schedule
 
 README = pathlib.Path(__file__).parent.parent / "README.md"
 
@@ -14,6 +17,11 @@ class ReadmeTest(unittest.TestCase):
         told = []
         result = doctest.DocTestRunner(verbose=False).run(examples, out=told.append)
         self.assertEqual(result.failed, 0, "".join(told))
+
+    def test_the_schedule(self):
+        [text] = re.findall("```\n(world .*?)\n```", README.read_text("utf-8"), re.DOTALL)
+        world = run_schedule(text)
+        self.assertEqual((world.time(), world.is_up(0)), (8, True))
 
 
 if __name__ == "__main__":
