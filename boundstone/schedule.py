@@ -2,13 +2,12 @@
 
 from boundstone.acts import ITEMS, check_act
 from boundstone.errors import BadSchedule, BadText
-from boundstone.limits import MOST_NUMBER
 from boundstone.operations import is_operation
 from boundstone.texts import decode, encode, is_integer, is_printable
 from boundstone.world import World
 
-# The greatest integer of a line, which has one digit less than the greatest number.
-GREATEST = MOST_NUMBER - 1
+# The integers of a line have at most 12 digits, one less than the greatest number of an act has.
+GREATEST = 10 ** 12 - 1
 
 
 def parse_schedule(text):
